@@ -60,11 +60,11 @@ func plainSplit(w impl.Work, page int, isLeaf bool, list []entry) (impl.Work, []
 	return plainDrop(w, page), told, true
 }
 
-// plainBelow is what is done to the tree of a page that has so many above it; also how deep its way is.
-func plainBelow(w impl.Work, page, above int, key, val string) (impl.Work, []entry, int, bool) {
+// plainBelow is what is done to the tree of a page that has so many above it.
+func plainBelow(w impl.Work, page, above int, key, val string) (impl.Work, []entry, bool) {
 	n, ok := impl.ReadNode(impl.ReadPage(w.Disk, page))
 	if !ok || above+1 > 8 {
-		return w, nil, 0, false
+		return w, nil, false
 	}
 	list := entriesOf(n)
 	place := 0
@@ -77,21 +77,28 @@ func plainBelow(w impl.Work, page, above int, key, val string) (impl.Work, []ent
 		} else {
 			list = slices.Insert(list, place, entry{key: key, val: val})
 		}
-		out, told, ok := plainSplit(w, page, true, list)
-		return out, told, above + 1, ok
+		return plainSplit(w, page, true, list)
 	}
 	if place > 0 {
 		place--
 	}
-	out, below, deep, ok := plainBelow(w, list[place].kid, above+1, key, val)
+	out, below, ok := plainBelow(w, list[place].kid, above+1, key, val)
 	if !ok {
-		return w, nil, 0, false
+		return w, nil, false
 	}
 	if list[place].key < below[0].key {
 		below[0].key = list[place].key
 	}
-	out, told, ok := plainSplit(out, page, false, slices.Replace(list, place, place+1, below...))
-	return out, told, deep, ok
+	return plainSplit(out, page, false, slices.Replace(list, place, place+1, below...))
+}
+
+// plainDeep tells whether any way from a page that has so many above it goes deeper than 8.
+func plainDeep(d impl.Disk, page, above int) bool {
+	if above+1 > 8 {
+		return true
+	}
+	n, _ := impl.ReadNode(impl.ReadPage(d, page))
+	return slices.ContainsFunc(n.Kids, func(kid int) bool { return plainDeep(d, kid, above+1) })
 }
 
 // plainPutKey is what the document tells of PutKey, from the root down and back.
@@ -103,18 +110,18 @@ func plainPutKey(w impl.Work, root int, key, val string) (impl.Work, int, bool) 
 		out, page := plainPut(w, leaf([]string{key}, []string{val}))
 		return out, page, page != 0
 	}
-	out, told, deep, ok := plainBelow(w, root, 0, key, val)
-	if !ok || len(told) == 2 && deep == 8 {
+	out, told, ok := plainBelow(w, root, 0, key, val)
+	if !ok {
 		return w, root, false
 	}
-	if len(told) == 1 {
-		return out, told[0].kid, true
+	top := told[0].kid
+	if len(told) == 2 {
+		out, top = plainPut(out, nodeOf(false, told))
 	}
-	out, page := plainPut(out, nodeOf(false, told))
-	if page == 0 {
+	if top == 0 || plainDeep(out.Disk, top, 0) {
 		return w, root, false
 	}
-	return out, page, true
+	return out, top, true
 }
 
 // putKey holds PutKey against the document's words, each field and each page.
@@ -163,7 +170,7 @@ func roomOf(t *testing.T, w impl.Work, root int) []int {
 	return whole
 }
 
-// putRight puts a pair into a right tree of these pairs, and holds the promise: it is there, all else stays, and the old tree stays as it was.
+// putRight puts a pair into a tree of these pairs, and holds the promise: it is there, all else stays, and the old tree stays as it was. A tree that is right stays right; one that is not, as its leaves are at several depths, has them so still.
 func putRight(t *testing.T, name string, w impl.Work, root int, pairs []impl.Pair, key, val string) (impl.Work, int, []impl.Pair) {
 	t.Helper()
 	old, _ := impl.PagesOf(w.Disk, root)
@@ -173,7 +180,7 @@ func putRight(t *testing.T, name string, w impl.Work, root int, pairs []impl.Pai
 	}
 	want := withKey(pairs, key, val)
 	pages, _ := impl.PagesOf(out.Disk, top)
-	told(t, name, out.Disk, top, want, pages, true)
+	told(t, name, out.Disk, top, want, pages, impl.TreeOk(w.Disk, root))
 	for _, p := range want {
 		found(t, out.Disk, top, p.Key, p.Val)
 		notFound(t, out.Disk, top, p.Key+"~")
@@ -754,6 +761,153 @@ func TestPutMaxDeep(t *testing.T) {
 	}
 }
 
+// unevenTree is a root of so many Kids, which are leaves of two pairs; but the one at the place full has Fan of them, and that at the place deep hangs so far down that the tree has so many levels.
+func unevenTree(t *testing.T, kids, full, deep, levels int) (impl.Work, int, []impl.Pair) {
+	t.Helper()
+	w, pairs, root := work(newDisk(t, impl.MaxPages), 2, nil, nil, nil), []impl.Pair{}, impl.Node{}
+	for at := range kids {
+		n := impl.Node{Leaf: true}
+		for more := range 4 {
+			if more < 2 || at == full {
+				n.Keys, n.Vals = append(n.Keys, string(rune('b'+2*at))+strconv.Itoa(2*more)), append(n.Vals, strconv.Itoa(at))
+				pairs = append(pairs, pair(n.Keys[more], n.Vals[more]))
+			}
+		}
+		key, page := n.Keys[0], 0
+		w, page = impl.PutNode(w, n)
+		for range levels - 2 {
+			if at == deep {
+				w, page = impl.PutNode(w, branch([]string{key}, page))
+			}
+		}
+		root.Keys, root.Kids = append(root.Keys, key), append(root.Kids, page)
+	}
+	w, page := impl.PutNode(w, root)
+	return work(impl.SyncDisk(w.Disk), w.Next, nil, nil, nil), page, pairs
+}
+
+// Where leaves are not at one depth, a new root puts down those beside the way, too: the deepest one counts, whichever Kid it is below. Without a new root nothing comes to be deeper.
+func TestPutDeepBesideTheWay(t *testing.T) {
+	for levels := 2; levels <= impl.MaxDeep+2; levels++ {
+		for row := range 3 * 4 * 4 {
+			kids, full, deep := 2+row%3, row/3%4, row/12
+			if full >= kids || deep >= kids || full == deep {
+				continue
+			}
+			w, root, pairs := unevenTree(t, kids, full, deep, levels)
+			for at := range kids {
+				for key, more := range map[string]bool{"0": false, "1": true, "2": at != full, "9": true} {
+					key = string(rune('b'+2*at)) + key
+					name := strconv.Itoa(levels) + " levels, " + strconv.Itoa(full) + " full, " + strconv.Itoa(deep) + " deep, " + key
+					now := levels
+					if kids == impl.Fan && at == full && more {
+						now++
+					}
+					out, _, ok := putKey(t, name, w, root, key, "new")
+					if ok != (now <= impl.MaxDeep) {
+						t.Fatalf("%s: PutKey = %v", name, ok)
+					}
+					if ok {
+						putRight(t, name, w, root, pairs, key, "new")
+						told(t, name+": the old tree", out.Disk, root, pairs, span(2, w.Next-1), levels == 2)
+					}
+				}
+			}
+		}
+	}
+}
+
+// drawn answers numbers below n that a rule draws.
+func drawn(seed int) func(n int) int {
+	draw := uint32(seed + 1)
+	return func(n int) int {
+		draw = draw*1664525 + 1013904223
+		return int(draw>>16) % n
+	}
+}
+
+// drawTree is a tree of at most so many pages, whose leaves are at any depth down to most, with Keys above that are the least below, or less.
+func drawTree(t *testing.T, next func(n int) int, most, pages int) (impl.Work, int, []impl.Pair) {
+	t.Helper()
+	w, pairs := work(newDisk(t, impl.MaxPages), 2, nil, nil, nil), []impl.Pair{}
+	put := func(n impl.Node) int {
+		out, page := impl.PutNode(w, n)
+		if page == 0 {
+			t.Fatalf("no page for %+v", n)
+		}
+		w = out
+		return page
+	}
+	// Full ones are drawn often, and the root is so, that it becomes two now and then.
+	size := func() int { return min(1+next(6), 4) }
+	var below func(level, room int) (string, int)
+	below = func(level, room int) (string, int) {
+		if level == most || room == 1 {
+			n := impl.Node{Leaf: true}
+			for range size() {
+				n.Keys, n.Vals = append(n.Keys, "k"+strconv.Itoa(100+len(pairs))), append(n.Vals, "v")
+				pairs = append(pairs, pair(n.Keys[len(n.Keys)-1], "v"))
+			}
+			return n.Keys[0], put(n)
+		}
+		n := impl.Node{}
+		kids := min(1+next(2), room-1)
+		if level == 1 {
+			kids = min(impl.Fan, room-1)
+		}
+		more := room - 1 - kids
+		for range kids {
+			less := string(rune('!' + level))
+			if len(pairs) > 0 {
+				less = pairs[len(pairs)-1].Key + less
+			}
+			part := more
+			if next(3) > 0 {
+				part = next(more/2 + 1)
+			}
+			more -= part
+			key, page := below(level+1, 1+part)
+			if next(3) == 0 {
+				key = less
+			}
+			n.Keys, n.Kids = append(n.Keys, key), append(n.Kids, page)
+		}
+		return n.Keys[0], put(n)
+	}
+	_, root := below(1, pages)
+	return work(impl.SyncDisk(w.Disk), w.Next, nil, nil, nil), root, pairs
+}
+
+// Drawn trees of any shape down to nine levels: where AllPairs was true, it is so behind a put, with all that was there.
+func TestPutIntoDrawnTrees(t *testing.T) {
+	refused, told := 0, 0
+	for seed := range 150 {
+		w, root, pairs := drawTree(t, drawn(seed), 7+seed%3, 21)
+		whole, right := impl.AllPairs(w.Disk, root)
+		if right && !slices.Equal(whole, pairs) {
+			t.Fatalf("seed %d: %q, not %q", seed, whole, pairs)
+		}
+		for at, p := range append(pairs, pair("", ""), pair("z", "")) {
+			for _, key := range []string{p.Key + "}", p.Key}[:1+at%2] {
+				_, _, ok := putKey(t, "a drawn tree", w, root, key, "new")
+				if ok && !right {
+					t.Fatalf("seed %d: %q is put into a tree that is too deep", seed, key)
+				}
+				if right && !ok {
+					refused++
+				}
+				if ok {
+					putRight(t, "a drawn tree", w, root, pairs, key, "new")
+					told++
+				}
+			}
+		}
+	}
+	if refused < 20 || told < 500 {
+		t.Errorf("%d are refused that would be too deep, %d are put", refused, told)
+	}
+}
+
 // refusesPut holds that nothing is put, and all is as it was.
 func refusesPut(t *testing.T, name string, w impl.Work, root int, keys ...string) {
 	t.Helper()
@@ -803,7 +957,7 @@ func TestPutOverAPageThatIsNoNode(t *testing.T) {
 	refusesPut(t, "a Kid past the disk", work(d, 4, []int{0, 1}, nil, nil), 3, "b", "z")
 }
 
-// A tree that comes back to a page of its own: nothing is put on the round, and putting ends.
+// A tree that comes back to a page of its own, on the way or beside it, is deeper than any tree may be: nothing is put, and putting ends.
 func TestPutIntoARound(t *testing.T) {
 	for name, nodes := range map[string]map[int]impl.Node{
 		"its own kid":      {2: oneOf("a"), 4: branch([]string{"a", "c"}, 2, 4)},
@@ -813,14 +967,19 @@ func TestPutIntoARound(t *testing.T) {
 		"a kid its own":    {2: oneOf("a"), 3: branch([]string{"c"}, 3), 4: branch([]string{"a", "c"}, 2, 3)},
 	} {
 		w := work(pagesWith(t, nodes), 6, nil, []int{1}, []int{3})
-		refusesPut(t, name, w, 4, "c", "cc", "z")
-		out, root, ok := putKey(t, name, w, 4, "b", "x")
-		if !ok {
-			t.Fatalf("%s: %q is not put, whose way is a right one", name, "b")
+		for _, key := range []string{"", "a", "b", "c", "cc", "z"} {
+			putKey(t, name, w, 4, key, "v")
+			refusesPut(t, name, w, 4, key)
 		}
-		found(t, out.Disk, root, "b", "x")
-		found(t, out.Disk, root, "a", "a")
 	}
+	// A page that is come to twice without a round is looked at on the way alone.
+	twice := work(pagesWith(t, map[int]impl.Node{2: oneOf("a"), 3: branch([]string{"c"}, 2), 4: branch([]string{"a", "c"}, 2, 3)}), 6, nil, nil, nil)
+	out, root, ok := putKey(t, "twice", twice, 4, "b", "x")
+	if !ok {
+		t.Fatalf("%q is not put, whose way is a right one", "b")
+	}
+	found(t, out.Disk, root, "b", "x")
+	found(t, out.Disk, root, "a", "a")
 	first := map[int]impl.Node{3: oneOf("x"), 4: branch([]string{"c", "x"}, 4, 3)}
 	refusesPut(t, "at the first Kid", work(pagesWith(t, first), 5, nil, nil, nil), 4, "", "a", "c", "d")
 	refusesPut(t, "nothing but itself", work(pagesWith(t, map[int]impl.Node{2: branch([]string{"a"}, 2)}), 5, nil, nil, nil), 2, "", "a", "b")
@@ -884,12 +1043,7 @@ func TestPutIntoEachDisk(t *testing.T) {
 func TestPutLongRow(t *testing.T) {
 	for seed := range 6 {
 		w, root, pairs := impl.WorkNew(newDisk(t, impl.MaxPages), meta(0, 0, 2), 0), 0, []impl.Pair{}
-		draw := uint32(seed + 1)
-		next := func(n int) int {
-			draw = draw*1664525 + 1013904223
-			return int(draw>>16) % n
-		}
-		full := 0
+		next, full := drawn(seed), 0
 		for at := 0; at < 400 && full < 3; at++ {
 			key, val := strings.Repeat("ab", next(3))+strconv.Itoa(next(30)), strconv.Itoa(at)
 			if _, _, ok := putKey(t, "a row", w, root, key, val); ok {
