@@ -10,10 +10,9 @@ import (
 	"loop.example/g00240/impl"
 )
 
-// taking is a take as it goes on: the work, and the pages that were left in it.
+// taking is a take as it goes on.
 type taking struct {
-	w    impl.Work
-	left []int
+	w impl.Work
 }
 
 // below takes the key from the tree of a page that has so many above it, and answers what that is now; 0 when it is gone.
@@ -48,22 +47,21 @@ func (k *taking) below(page, above int, key string) (int, bool) {
 		}
 	}
 	k.w = plainDrop(k.w, page)
-	k.left = append(k.left, page)
 	return given, true
 }
 
-// only goes down from a root as long as it has one Kid alone; it is false where that comes to no node, or back to a page that was left and not given again.
+// only goes down from a root as long as it has one Kid alone; it is false where that comes to no node, or to a page for the second time, so that there is no end.
 func (k *taking) only(page int) (int, bool) {
-	for range 100 {
+	for seen := []int{}; !slices.Contains(seen, page); {
 		n, ok := impl.ReadNode(impl.ReadPage(k.w.Disk, page))
-		if !ok || slices.Contains(k.left, page) && !slices.Contains(k.w.Fresh, page) {
+		if !ok {
 			return 0, false
 		}
 		if n.Leaf || len(n.Kids) > 1 {
 			return page, true
 		}
 		k.w = plainDrop(k.w, page)
-		k.left = append(k.left, page)
+		seen = append(seen, page)
 		page = n.Kids[0]
 	}
 	return 0, false
@@ -634,36 +632,157 @@ func TestTakeFromARound(t *testing.T) {
 	refusesTake(t, "nothing but itself", work(pagesWith(t, map[int]impl.Node{2: branch([]string{"a"}, 2)}), 5, nil, nil, nil), 2, "", "a", "b")
 }
 
-// What is left below a root with one Kid comes back to a page of its own, or to one that was on the way.
-func TestTakeWhatIsLeftComesBack(t *testing.T) {
+// eachFresh calls on with each choice of the pages 2 to 9 that are Fresh, but for those that are usable.
+func eachFresh(usable []int, on func(fresh []int)) {
+	for mask := range 1 << 8 {
+		fresh := []int{}
+		for at, is := range bits(mask, 8) {
+			if is && !slices.Contains(usable, 2+at) {
+				fresh = append(fresh, 2+at)
+			}
+		}
+		on(fresh)
+	}
+}
+
+// What is left below a root with one Kid comes back to a page of its own, again and again: there is no end, and so no root.
+func TestTakeWhatIsLeftHasNoEnd(t *testing.T) {
 	x := oneOf("x")
 	for name, nodes := range map[string]map[int]impl.Node{
-		"to the Kid":               {4: branch([]string{"a", "x"}, 5, 9), 5: branch([]string{"a"}, 5), 9: x},
-		"a round of two":           {4: branch([]string{"a", "x"}, 5, 9), 5: branch([]string{"a"}, 6), 6: branch([]string{"a"}, 5), 9: x},
-		"a round of three":         {4: branch([]string{"a", "x"}, 5, 9), 5: branch([]string{"a"}, 6), 6: branch([]string{"a"}, 7), 7: branch([]string{"a"}, 5), 9: x},
-		"a round further down":     {4: branch([]string{"a", "x"}, 5, 9), 5: branch([]string{"a"}, 6), 6: branch([]string{"a"}, 7), 7: branch([]string{"a"}, 6), 9: x},
-		"to the old root":          {4: branch([]string{"a", "x"}, 5, 9), 5: branch([]string{"a"}, 4), 9: x},
-		"to the leaf":              {4: branch([]string{"a", "x"}, 5, 9), 5: branch([]string{"a"}, 9), 9: x},
-		"to the leaf, later":       {4: branch([]string{"a", "x"}, 5, 9), 5: branch([]string{"a"}, 6), 6: branch([]string{"a"}, 9), 9: x},
-		"to a node of the way":     {4: branch([]string{"a", "x"}, 5, 8), 5: branch([]string{"a"}, 8), 8: branch([]string{"x"}, 9), 9: x},
-		"to a round behind a page": {4: branch([]string{"a", "x"}, 5, 8), 5: branch([]string{"a"}, 6), 6: branch([]string{"a"}, 4), 8: branch([]string{"x"}, 9), 9: x},
-		"the first Kid is gone":    {4: branch([]string{"a", "y"}, 9, 5), 5: branch([]string{"a"}, 4), 9: x},
+		"to the Kid":           {4: branch([]string{"a", "x"}, 5, 9), 5: branch([]string{"a"}, 5), 9: x},
+		"a round of two":       {4: branch([]string{"a", "x"}, 5, 9), 5: branch([]string{"a"}, 6), 6: branch([]string{"a"}, 5), 9: x},
+		"a round of three":     {4: branch([]string{"a", "x"}, 5, 9), 5: branch([]string{"a"}, 6), 6: branch([]string{"a"}, 7), 7: branch([]string{"a"}, 5), 9: x},
+		"a round further down": {4: branch([]string{"a", "x"}, 5, 9), 5: branch([]string{"a"}, 6), 6: branch([]string{"a"}, 7), 7: branch([]string{"a"}, 6), 9: x},
 	} {
 		d := pagesWith(t, nodes)
-		for mask := range 1 << 8 {
-			fresh := []int{}
-			for at, is := range bits(mask, 8) {
-				if is {
-					fresh = append(fresh, 2+at)
-				}
-			}
-			for _, usable := range [][]int{nil, {10}, {2, 3}} {
-				w := work(d, 11, usable, []int{1}, slices.DeleteFunc(slices.Clone(fresh), func(page int) bool { return slices.Contains(usable, page) }))
+		for _, usable := range [][]int{nil, {10}, {2, 3}} {
+			eachFresh(usable, func(fresh []int) {
+				w := work(d, 11, usable, []int{1}, fresh)
 				dropKey(t, name, w, 4, "x")
 				refusesTake(t, name, w, 4, "x")
+			})
+		}
+	}
+}
+
+// Or it comes to a page that was on the way, and ends there: the document names that as no reason for a false. Pages of one tree that are come to twice are in no tree that AllPairs tells.
+func TestTakeWhatIsLeftComesBack(t *testing.T) {
+	x := oneOf("x")
+	for name, c := range map[string]struct {
+		nodes map[int]impl.Node
+		root  int
+		gone  []int
+	}{
+		"to the leaf":              {map[int]impl.Node{4: branch([]string{"a", "x"}, 5, 9), 5: branch([]string{"a"}, 9), 9: x}, 9, []int{9, 4, 5}},
+		"to the leaf, later":       {map[int]impl.Node{4: branch([]string{"a", "x"}, 5, 9), 5: branch([]string{"a"}, 6), 6: branch([]string{"a"}, 9), 9: x}, 9, []int{9, 4, 5, 6}},
+		"to a node of the way":     {map[int]impl.Node{4: branch([]string{"a", "x"}, 5, 8), 5: branch([]string{"a"}, 8), 8: branch([]string{"x"}, 9), 9: x}, 9, []int{9, 8, 4, 5, 8}},
+		"to the old root":          {map[int]impl.Node{4: branch([]string{"a", "x"}, 5, 9), 5: branch([]string{"a"}, 4), 9: x}, 4, []int{9, 4, 5}},
+		"to the old root, later":   {map[int]impl.Node{4: branch([]string{"a", "x"}, 5, 8), 5: branch([]string{"a"}, 6), 6: branch([]string{"a"}, 4), 8: branch([]string{"x"}, 9), 9: x}, 4, []int{9, 8, 4, 5, 6}},
+		"the first Kid is gone":    {map[int]impl.Node{4: branch([]string{"a", "y"}, 9, 5), 5: branch([]string{"a"}, 4), 9: x}, 4, []int{9, 4, 5}},
+		"to a node with more Kids": {map[int]impl.Node{4: branch([]string{"a", "x"}, 5, 8), 5: branch([]string{"a"}, 8), 7: oneOf("y"), 8: branch([]string{"x", "y"}, 9, 7), 9: leaf([]string{"x", "xx"}, []string{"1", "2"})}, 0, nil},
+	} {
+		d := pagesWith(t, c.nodes)
+		noTree(t, name, d, 4)
+		if c.root != 0 {
+			out, root, ok := impl.DropKey(work(d, 11, nil, nil, nil), 4, "x")
+			if !ok || root != c.root || !slices.Equal(out.Gone, c.gone) || !slices.Equal(out.Usable, []int{11}) || len(out.Fresh) != 0 {
+				t.Errorf("%s: root %d, %v, %+v", name, root, ok, out)
+			}
+		}
+		for _, usable := range [][]int{nil, {10}, {2, 3}} {
+			eachFresh(usable, func(fresh []int) {
+				// Which pages are Fresh decides where the nodes are put, and so where what is left ends.
+				dropKey(t, name, work(d, 11, usable, []int{1}, fresh), 4, "x")
+			})
+		}
+	}
+}
+
+// The page that is given is the one of the leaf that is a root: it was given, so that it is Fresh, and its drop makes it usable again.
+func TestTakeIntoTheRootsOwnPage(t *testing.T) {
+	d := pagesWith(t, map[int]impl.Node{2: leaf([]string{"a", "b"}, []string{"1", "2"})})
+	for key, want := range map[string]impl.Node{"a": leaf([]string{"b"}, []string{"2"}), "b": leaf([]string{"a"}, []string{"1"})} {
+		put := write(t, d, 2, nodeText(t, want))
+		takes(t, "Next", work(d, 2, nil, nil, nil), 2, key, 2, work(put, 3, []int{2}, nil, nil))
+		takes(t, "usable", work(d, 14, []int{2}, nil, nil), 2, key, 2, work(put, 14, []int{2}, nil, nil))
+		takes(t, "usable, with others", work(d, 9, []int{2, 5}, []int{7}, []int{6}), 2, key, 2, work(put, 9, []int{2, 5}, []int{7}, []int{6}))
+		found(t, put, 2, want.Keys[0], want.Vals[0])
+		notFound(t, put, 2, key)
+	}
+	takes(t, "the last", work(pagesWith(t, map[int]impl.Node{2: oneOf("k")}), 2, nil, nil, nil), 2, "k", 0, work(pagesWith(t, map[int]impl.Node{2: oneOf("k")}), 2, nil, []int{2}, nil))
+}
+
+// The page that is given first is that of the leaf, of the node above it, or of the root: none of these is a reason for a false.
+func TestTakeIntoAPageOfTheWay(t *testing.T) {
+	d := pagesWith(t, map[int]impl.Node{
+		2: leaf([]string{"a", "b"}, []string{"1", "2"}), 3: oneOf("m"), 4: branch([]string{"a", "m"}, 2, 3), 7: oneOf("t"), 5: branch([]string{"t"}, 7), 6: branch([]string{"a", "t"}, 4, 5),
+	})
+	kept := leaf([]string{"b"}, []string{"2"})
+	puts := func(list ...any) impl.Disk {
+		out := d
+		for at := 0; at < len(list); at += 2 {
+			out = write(t, out, list[at].(int), nodeText(t, list[at+1].(impl.Node)))
+		}
+		return out
+	}
+	takes(t, "that of the leaf", work(d, 14, []int{2, 8, 9}, nil, nil), 6, "a", 8,
+		work(puts(2, kept, 2, branch([]string{"a", "m"}, 2, 3), 8, branch([]string{"a", "t"}, 2, 5)), 14, []int{9}, []int{4, 6}, []int{2, 8}))
+	takes(t, "that of the node above", work(d, 14, []int{4, 8, 9}, nil, nil), 6, "a", 4,
+		work(puts(4, kept, 8, branch([]string{"a", "m"}, 4, 3), 4, branch([]string{"a", "t"}, 8, 5)), 14, []int{9}, []int{2, 6}, []int{8, 4}))
+	whole := puts(6, kept, 8, branch([]string{"a", "m"}, 6, 3), 9, branch([]string{"a", "t"}, 8, 5))
+	takes(t, "that of the root", work(d, 14, []int{6, 8, 9}, nil, nil), 6, "a", 9, work(whole, 14, []int{6}, []int{2, 4}, []int{8, 9}))
+	told(t, "that of the root", whole, 9, []impl.Pair{pair("b", "2"), pair("m", "m"), pair("t", "t")}, []int{3, 5, 6, 7, 8, 9}, true)
+	// Where the leaf is gone, its page is not Fresh, and may still be given; where the root is left with one Kid, its page is dropped behind both.
+	gone := write(t, write(t, d, 3, nodeText(t, branch([]string{"a"}, 2))), 8, nodeText(t, branch([]string{"a", "t"}, 3, 5)))
+	takes(t, "a leaf that is gone", work(d, 14, []int{3, 8, 9}, nil, nil), 6, "m", 8, work(gone, 14, []int{9}, []int{3, 4, 6}, []int{3, 8}))
+	one := write(t, d, 6, nodeText(t, branch([]string{"a"}, 4)))
+	takes(t, "a root with one Kid", work(d, 14, []int{6, 8}, nil, nil), 6, "t", 4, work(one, 14, []int{6, 8}, []int{7, 5, 6}, nil))
+	takes(t, "a root with one Kid, Next", work(d, 6, nil, nil, nil), 6, "t", 4, work(one, 7, []int{6}, []int{7, 5, 6}, nil))
+	// The root is put to the page of its only Kid: there is no end.
+	narrow := pagesWith(t, map[int]impl.Node{2: leaf([]string{"a", "b"}, []string{"1", "2"}), 3: branch([]string{"a"}, 2)})
+	refusesTake(t, "a root that is its own Kid", work(narrow, 14, []int{2, 8}, nil, nil), 3, "a", "b")
+}
+
+// Trees of one level to five, each key, each page of its way given next (as the first usable one, the only one, or Next), with none, some and all of the others Fresh.
+func TestTakeIntoEachPageOfTheWay(t *testing.T) {
+	took := map[int]int{}
+	for _, g := range []tree{grow(t, pairsOf(2), 4, span(2, 39)), grow(t, pairsOf(7), 4, span(2, 39)), grow(t, pairsOf(10), 3, span(3, 39)), grow(t, pairsOf(9), 2, span(2, 39)), grow(t, pairsOf(18), 2, span(2, 39))} {
+		g.disk = impl.SyncDisk(g.disk)
+		for _, p := range g.pairs {
+			way := wayTo(g.disk, g.root, p.Key)
+			for level, page := range way {
+				for mask := range 1 << len(way) {
+					fresh := []int{}
+					for at, is := range bits(mask, len(way)) {
+						if is && at != level {
+							fresh = append(fresh, way[at])
+						}
+					}
+					usable := append([]int{page}, slices.DeleteFunc(free40(g), func(other int) bool { return other < page })...)
+					name := strconv.Itoa(len(way)) + " levels, that of level " + strconv.Itoa(level)
+					_, _, ok := dropKey(t, name, work(g.disk, impl.MaxPages, usable, nil, fresh), g.root, p.Key)
+					if n, _ := impl.ReadNode(impl.ReadPage(g.disk, g.root)); !ok && (n.Leaf || len(n.Kids) > 2) {
+						t.Fatalf("%s: %q is not taken, and the root has Kids enough", name, p.Key)
+					}
+					if ok {
+						took[level]++
+					}
+					dropKey(t, name+", alone", work(g.disk, impl.MaxPages, []int{page}, nil, fresh), g.root, p.Key)
+					dropKey(t, name+", Next", work(g.disk, page, nil, nil, slices.DeleteFunc(fresh, func(other int) bool { return other > page })), g.root, p.Key)
+				}
 			}
 		}
 	}
+	for level := range 5 {
+		if took[level] == 0 {
+			t.Errorf("nothing is taken with the page of level %d", level)
+		}
+	}
+}
+
+// What is left below a root with one Kid, where a page is come to twice beside it, and so many of them as a disk can have.
+func TestTakeLongRowsOfOneKid(t *testing.T) {
+	x := oneOf("x")
 	// A page that is come to twice, but not from a root with one Kid, is looked at on the way alone.
 	d := pagesWith(t, map[int]impl.Node{4: branch([]string{"a", "m", "x"}, 5, 6, 9), 5: branch([]string{"a"}, 9), 6: oneOf("m"), 9: x})
 	out, root, ok := dropKey(t, "twice", work(d, 10, nil, nil, nil), 4, "x")
@@ -896,11 +1015,7 @@ func TestListsOfATakeAreApart(t *testing.T) {
 			got, _, _ := do(roomyWork(c.w), c.root)
 			want := ownWork(got)
 			for _, list := range [][]int{got.Usable, got.Gone, got.Fresh} {
-				was := slices.Clone(list)
-				for at := range list[:cap(list)] {
-					list[:cap(list)][at] = -7
-				}
-				copy(list, was)
+				fillSpare(list)
 				if !sameWork(got, want) {
 					t.Errorf("%s, %s: two lists share memory", call, name)
 				}

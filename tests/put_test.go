@@ -1166,11 +1166,7 @@ func TestListsOfAPutAreApart(t *testing.T) {
 			got, _, _ := do(roomyWork(c.w), c.root)
 			want := ownWork(got)
 			for _, list := range [][]int{got.Usable, got.Gone, got.Fresh} {
-				was := slices.Clone(list)
-				for at := range list[:cap(list)] {
-					list[:cap(list)][at] = -7
-				}
-				copy(list, was)
+				fillSpare(list)
 				if !sameWork(got, want) {
 					t.Errorf("%s, %s: two lists share memory", call, name)
 				}

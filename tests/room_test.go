@@ -608,6 +608,13 @@ func TestNewWorksAreNewMemory(t *testing.T) {
 	}
 }
 
+// fillSpare changes all that is in the room behind a list.
+func fillSpare(list []int) {
+	for at := len(list); at < cap(list); at++ {
+		list[:cap(list)][at] = -7
+	}
+}
+
 // The lists of one answer are apart, in their spare room, too.
 func TestListsOfAWorkAreApart(t *testing.T) {
 	for name, plain := range anyWorks() {
@@ -616,11 +623,7 @@ func TestListsOfAWorkAreApart(t *testing.T) {
 			want := ownWork(got)
 			lists := [][]int{got.Usable, got.Gone, got.Fresh}
 			for _, list := range lists {
-				was := slices.Clone(list)
-				for at := range list[:cap(list)] {
-					list[:cap(list)][at] = -7
-				}
-				copy(list, was)
+				fillSpare(list)
 				if !sameWork(got, want) {
 					t.Errorf("%s of %s: two lists share memory", call, name)
 				}
