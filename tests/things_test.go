@@ -1226,23 +1226,29 @@ func TestThingsOfOddTrees(t *testing.T) {
 	}
 }
 
-// Trees with several of those at once, drawn.
-func TestThingsOfDrawnTrees(t *testing.T) {
-	base, odd := peoplePairs(t), oddPairs()
+// drawOdd is base with some of the odd pairs, of at most so many kinds of them, and without some of its own ones.
+func drawOdd(next func(n int) int, base []impl.Pair, most int) []impl.Pair {
+	odd := oddPairs()
 	names := slices.Sorted(maps.Keys(odd))
-	for seed := range 60 {
-		next := drawn(seed)
-		pairs := slices.Clone(base)
-		for range 1 + next(4) {
-			for _, p := range odd[names[next(len(names))]] {
-				if next(4) > 0 {
-					pairs = withKey(pairs, p.Key, p.Val)
-				}
+	pairs := slices.Clone(base)
+	for range 1 + next(most) {
+		for _, p := range odd[names[next(len(names))]] {
+			if next(4) > 0 {
+				pairs = withKey(pairs, p.Key, p.Val)
 			}
 		}
-		for range next(3) {
-			pairs = withoutKey(pairs, pairs[next(len(pairs))].Key)
-		}
+	}
+	for range next(3) {
+		pairs = withoutKey(pairs, pairs[next(len(pairs))].Key)
+	}
+	return pairs
+}
+
+// Trees with several of those at once, drawn.
+func TestThingsOfDrawnTrees(t *testing.T) {
+	base := peoplePairs(t)
+	for seed := range 60 {
+		pairs := drawOdd(drawn(seed), base, 4)
 		x := treeOf(t, pairs)
 		looksAt(t, "seed "+strconv.Itoa(seed), x.Work.Disk, x.Root, pairs)
 		if seed%3 == 0 {
